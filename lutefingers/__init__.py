@@ -1,0 +1,1 @@
+"""Left-hand fingerings of lute pieces; the calls are in lutefingers.hands."""

@@ -1,0 +1,198 @@
+"""What the tests share: texts as bytes, a writer of pieces, and a second reading of the document.
+
+The second reading goes another way than the program: it matches rows with patterns, and finds held
+stops by the units at which they begin and end.
+"""
+
+import re
+
+SIGN_OF_LENGTH = {
+    1: "x", 2: "t", 4: "s", 8: "e", 16: "q", 32: "h", 64: "w",
+    3: "t.", 6: "s.", 12: "e.", 24: "q.", 48: "h.", 96: "w.",
+}
+LENGTH_OF_SIGN = {sign: length for length, sign in SIGN_OF_LENGTH.items()}
+FRENCH = "abcdefghiklmnopq"
+FRENCH_BASS = {7: "a", 8: "/a", 9: "//a", 10: "///a", 11: "4", 12: "5", 13: "6", 14: "7"}
+ITALIAN = "0123456789xyzvuw"
+GERMAN = "a b c d e f g h i k l m n o p q r s t v x y z & 9".split()
+SIXTH = "+ABCDEFGHIKLMNOP"
+KINDS = ("french", "italian", "german")
+BAR = "|"
+
+
+def codes(text):
+    return list(text.encode("latin-1"))
+
+
+def french_stops(stops):
+    frets = dict(stops)
+    grid = "".join(FRENCH[frets[c]] if c in frets else "." for c in range(1, 7))
+    return grid + "".join(" " + FRENCH_BASS[c] for c in sorted(frets) if c > 6)
+
+
+def italian_stops(stops):
+    frets = dict(stops)
+    grid = "".join(ITALIAN[frets[c]] if c in frets else "." for c in range(6, 0, -1))
+    return grid + "".join(f" {c}" for c in sorted(frets) if c > 6)
+
+
+def german_sign(course, fret):
+    if course > 6:
+        return f"-{course}"
+    if course == 6:
+        return SIXTH[fret]
+    if fret == 0:
+        return str(6 - course)
+    return GERMAN[5 * ((fret - 1) % 5) + 5 - course] * ((fret - 1) // 5 + 1)
+
+
+def german_stops(stops):
+    return " ".join(german_sign(c, f) for c, f in stops) or "."
+
+
+WRITERS = {"french": french_stops, "italian": italian_stops, "german": german_stops}
+
+
+def piece_text(kind, lines):
+    """The text of a piece; a line is BAR or (length, stops), stops by courses."""
+    rows = [kind]
+    before = None
+    for line in lines:
+        if line == BAR:
+            rows.append(BAR)
+            continue
+        length, stops = line
+        sign = "" if length == before else SIGN_OF_LENGTH[length]
+        before = length
+        rows.append(sign + " " + WRITERS[kind](stops))
+    return "".join(row + "\n" for row in rows)
+
+
+GRID_PATTERN = {"french": "([a-ik-q.]{6})", "italian": "([0-9xyzvuw.]{6})"}
+BASS_PATTERN = {"french": "(?:/{0,3}a|[4-7])", "italian": "(?:[789]|1[0-4])"}
+GERMAN_PATTERN = re.compile(r"[1-5]|([a-ik-tvxyz&9])\1{0,2}|[+A-IK-P]|-(?:[789]|1[0-4])")
+BASS_COURSE = {
+    "french": {sign: course for course, sign in FRENCH_BASS.items()},
+    "italian": {str(course): course for course in range(7, 15)},
+}
+GERMAN_STOP = {german_sign(c, f): (c, f) for c in range(1, 7) for f in range(16)}
+GERMAN_STOP.update({german_sign(c, 0): (c, 0) for c in range(7, 15)})
+MOMENT_PATTERN = re.compile(r"(x|[tseqhw]\.?|) ([^\n]*)", re.DOTALL)
+
+
+def second_stops(kind, text):
+    """The stops that a row tells, or None."""
+    if kind == "german":
+        if text == ".":
+            return []
+        signs = text.split(" ")
+        if not all(GERMAN_PATTERN.fullmatch(sign) for sign in signs):
+            return None
+        stops = [GERMAN_STOP[sign] for sign in signs]
+    else:
+        match = re.fullmatch(GRID_PATTERN[kind] + "((?: " + BASS_PATTERN[kind] + ")*)", text)
+        if not match:
+            return None
+        grid = match.group(1) if kind == "french" else match.group(1)[::-1]
+        frets = FRENCH if kind == "french" else ITALIAN
+        stops = [(c + 1, frets.index(sign)) for c, sign in enumerate(grid) if sign != "."]
+        stops += [(BASS_COURSE[kind][sign], 0) for sign in match.group(2).split()]
+    courses = [course for course, _ in stops]
+    return stops if courses == sorted(set(courses)) else None
+
+
+def second_lines(text):
+    """The lines of a piece's text, or None if the text is no piece's."""
+    whole = re.fullmatch("(french|italian|german)\n((?:[^\n]*\n)*)", text)
+    if not whole:
+        return None
+    lines = []
+    before = None
+    for row in whole.group(2).split("\n")[:-1]:
+        if row == BAR:
+            lines.append(BAR)
+            continue
+        match = MOMENT_PATTERN.fullmatch(row)
+        if not match or (before is None and match.group(1) == ""):
+            return None
+        length = LENGTH_OF_SIGN[match.group(1)] if match.group(1) else before
+        if match.group(1) and length == before:
+            return None
+        stops = second_stops(whole.group(1), match.group(2))
+        if stops is None:
+            return None
+        before = length
+        lines.append((length, stops))
+    return lines if before is not None and len(lines) <= 512 else None
+
+
+def timed(lines):
+    """The moments as (place, begin, length, stops), the bars as (place, unit), and where the piece ends."""
+    moments, bars, unit = [], [], 0
+    for place, line in enumerate(lines):
+        if line == BAR:
+            bars.append((place, unit))
+        else:
+            moments.append((place, unit, line[0], line[1]))
+            unit += line[0]
+    return moments, bars, unit
+
+
+def second_held(lines, ring, i):
+    """The held stops of moment i, straight by the document's words."""
+    moments, bars, piece_end = timed(lines)
+    now = moments[i][1]
+    found = []
+    for number, (place, begin, length, stops) in enumerate(moments):
+        for course, fret in stops:
+            again = [m[1] for m in moments[number + 1:] if course in dict(m[3])]
+            end = begin + length if ring == 0 else min(again, default=piece_end)
+            if ring == 2:
+                end = min([end] + [unit for bar, unit in bars if bar > place])
+            if fret > 0 and begin <= now < end:
+                found.append((course, fret))
+    return sorted(found)
+
+
+def second_answer(ring, i, t):
+    if len(t) > 65536:
+        return [-2]
+    lines = second_lines(bytes(t).decode("latin-1"))
+    if lines is None:
+        return [-6]
+    if ring > 2:
+        return [-1]
+    if i >= sum(line != BAR for line in lines):
+        return [-4]
+    stops = second_held(lines, ring, i)
+    return [len(stops)] + [number for stop in stops for number in stop]
+
+
+class Dice:
+    """Numbers that look thrown but are the same each time."""
+
+    def __init__(self, seed):
+        self.state = seed
+
+    def below(self, limit):
+        self.state = (self.state * 6364136223846793005 + 1442695040888963407) % 2**64
+        return (self.state >> 33) % limit
+
+    def one_of(self, choices):
+        return choices[self.below(len(choices))]
+
+    def stops(self):
+        often = 1 + self.below(4)
+        return [
+            (course, self.below(16) if course < 7 and self.below(4) else 0)
+            for course in range(1, 15) if self.below(4) < often and self.below(2)
+        ]
+
+    def lines(self, most):
+        lengths = sorted(SIGN_OF_LENGTH)[:1 + self.below(13)]
+        lines = [
+            BAR if self.below(4) == 0 else (self.one_of(lengths), self.stops())
+            for _ in range(self.below(most))
+        ]
+        lines.insert(self.below(len(lines) + 1), (self.one_of(lengths), self.stops()))
+        return lines
