@@ -1,9 +1,11 @@
 """What the tests share: texts as bytes, a writer of pieces, and a second reading of the document.
 
-The second reading goes another way than the program: it matches rows with patterns, and finds held
-stops by the units at which they begin and end.
+The second reading goes another way than the program: it matches rows with patterns, finds held stops by
+the units at which they begin and end, and tries every finger at every position.
 """
 
+import functools
+import itertools
 import re
 
 SIGN_OF_LENGTH = {
@@ -168,6 +170,32 @@ def second_answer(ring, i, t):
     return [len(stops)] + [number for stop in stops for number in stop]
 
 
+def is_second_grip(stops, position, fingers):
+    """The three points of a grip, one after another."""
+    stopped = {finger: [s for s, own in zip(stops, fingers) if own == finger] for finger in (1, 2, 3, 4)}
+    for finger, places in stopped.items():
+        if any(not position + finger - 2 <= fret <= position + finger for _, fret in places):
+            return False
+        if len(places) > 1 and (finger != 1 or len({fret for _, fret in places}) > 1):
+            return False
+    for f, g in itertools.combinations((1, 2, 3, 4), 2):
+        for (f_course, a), (g_course, b) in itertools.product(stopped[f], stopped[g]):
+            if a > b or (a == b and f_course < g_course):
+                return False
+    return True
+
+
+@functools.lru_cache(maxsize=None)
+def second_grips(stops):
+    """Every grip of a tuple of held stops, by trying all positions and all fingers; in their order."""
+    return [
+        (position, fingers)
+        for position in range(1, 16)
+        for fingers in itertools.product((1, 2, 3, 4), repeat=len(stops))
+        if is_second_grip(stops, position, fingers)
+    ]
+
+
 class Dice:
     """Numbers that look thrown but are the same each time."""
 
@@ -188,11 +216,21 @@ class Dice:
             for course in range(1, 15) if self.below(4) < often and self.below(2)
         ]
 
-    def lines(self, most):
+    def near_stops(self, most_courses=14):
+        """Stops that a hand can often hold at once: their frets lie close together."""
+        lowest = self.below(15)
+        often = 1 + self.below(3)
+        return [
+            (course, min(15, lowest + self.below(4)) if course < 7 and self.below(6) else 0)
+            for course in range(1, most_courses + 1) if self.below(6) < often
+        ]
+
+    def lines(self, most, stops=None):
+        stops = stops or self.stops
         lengths = sorted(SIGN_OF_LENGTH)[:1 + self.below(13)]
         lines = [
-            BAR if self.below(4) == 0 else (self.one_of(lengths), self.stops())
+            BAR if self.below(4) == 0 else (self.one_of(lengths), stops())
             for _ in range(self.below(most))
         ]
-        lines.insert(self.below(len(lines) + 1), (self.one_of(lengths), self.stops()))
+        lines.insert(self.below(len(lines) + 1), (self.one_of(lengths), stops()))
         return lines

@@ -25,6 +25,9 @@ METHODS = """append clear copy count endswith extend find get index insert isaln
     rstrip setdefault split splitlines startswith strip update upper values zfill bit_length""".split()
 WORDS = """type typing typing_extensions enum Enum IntEnum StrEnum Flag IntFlag Generic Protocol ABC ABCMeta
     namedtuple NamedTuple TypedDict TYPE_CHECKING abstractmethod""".split()
+# What values of objects may be called although Python's own values have methods called so.
+FREE_VALUES = "count index title find get join lower upper split strip copy add".split()
+WALKED_AT_ONCE = "zip enumerate reversed range set frozenset".split()
 ANYWHERE = ("dataclass", "overload", "contextmanager")
 
 
@@ -93,7 +96,72 @@ class Language(unittest.TestCase):
             if isinstance(node, ast.arg):
                 self.assertNotIn(node.arg, builtin, place)
             if isinstance(node, ast.Attribute):
-                self.assertIn(node.attr, METHODS, place)
+                self.assertIn(node.attr, METHODS + sorted(self.own_values()), place)
+
+    def own_values(self):
+        """The names that objects of the package's classes keep their values under."""
+        return {
+            node.attr for _, node in self.nodes()
+            if isinstance(node, ast.Attribute) and isinstance(node.ctx, ast.Store)
+        }
+
+    def test_own_values(self):
+        of_python = {name for kind in (str, int, list, dict, set, bytes, tuple) for name in dir(kind)}
+        for name in self.own_values():
+            self.assertRegex(name, r"\A[A-Za-z]")
+            self.assertNotIn(name, of_python - set(FREE_VALUES))
+        for place, node in self.nodes():
+            if isinstance(node, ast.Attribute) and isinstance(node.ctx, ast.Store):
+                self.assertIsInstance(node.value, ast.Name, place)
+
+    def test_locals_are_not_called_like_classes_or_imports(self):
+        for name, tree in self.trees.items():
+            taken = {node.name for node in tree.body if isinstance(node, ast.ClassDef)}
+            for node in tree.body:
+                if isinstance(node, ast.ImportFrom):
+                    taken |= {alias.name for alias in node.names}
+            for node in ast.walk(tree):
+                if isinstance(node, ast.arg):
+                    self.assertNotIn(node.arg, taken, f"{name}:{node.lineno}")
+                if isinstance(node, ast.Name) and isinstance(node.ctx, ast.Store):
+                    self.assertNotIn(node.id, taken, f"{name}:{node.lineno}")
+
+    def test_top_of_files(self):
+        for name, tree in self.trees.items():
+            bound = []
+            for node in tree.body:
+                self.assertIsInstance(node, (ast.Expr, ast.ImportFrom, ast.FunctionDef, ast.ClassDef, ast.Assign), name)
+                if isinstance(node, ast.Expr):
+                    self.assertIsInstance(node.value, ast.Constant, name)
+                elif isinstance(node, ast.ImportFrom):
+                    bound += [alias.name for alias in node.names]
+                elif isinstance(node, ast.Assign):
+                    bound += [node.targets[0].id]
+                else:
+                    bound += [node.name]
+            self.assertEqual(len(bound), len(set(bound)), name)
+
+    def test_is_and_sets(self):
+        for place, node in self.nodes():
+            if isinstance(node, ast.Compare):
+                for kind, other in zip(node.ops, node.comparators):
+                    if isinstance(kind, (ast.Is, ast.IsNot)):
+                        self.assertIsInstance(other, ast.Constant, place)
+            if isinstance(node, (ast.Assign, ast.Return)) and isinstance(node.value, ast.Call):
+                called = node.value.func
+                if isinstance(called, ast.Name):
+                    self.assertNotIn(called.id, WALKED_AT_ONCE, place)
+
+    def test_imports_go_one_way(self):
+        drawn = {
+            name: {node.module.split(".")[1] + ".py" for node in tree.body if isinstance(node, ast.ImportFrom)}
+            for name, tree in self.trees.items()
+        }
+        while drawn:
+            free = [name for name in drawn if not drawn[name] & set(drawn)]
+            self.assertNotEqual(free, [], drawn)
+            for name in free:
+                drawn.pop(name)
 
 
 if __name__ == "__main__":
