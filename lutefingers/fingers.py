@@ -4,7 +4,7 @@ A grip is a tuple (position, fingers); fingers is a tuple with a finger for each
 """
 
 LAST_POSITION = 15
-LAST_FINGER = 4
+FINGERS = (1, 2, 3, 4)
 BARRE_FINGER = 1
 
 
@@ -34,7 +34,7 @@ def fingerings(stops, position):
     # Every rule of a grip speaks of one stop or of two, so stop by stop what doesn't fit can be left out at once.
     begun = [()]
     for course, fret in stops:
-        reaching = [finger for finger in range(1, LAST_FINGER + 1) if can_reach(position, finger, fret)]
+        reaching = [finger for finger in FINGERS if can_reach(position, finger, fret)]
         longer = []
         for fingers in begun:
             for finger in reaching:
@@ -51,3 +51,8 @@ def find_grips(stops):
         for fingers in fingerings(stops, position):
             found.append((position, fingers))
     return found
+
+
+def keeps_fingers(ties, grip, later_grip):
+    """Whether each stop that is held on keeps its finger; the ties are those of the later grip's moment."""
+    return all([grip[1][before] == later_grip[1][now] for before, now in ties])

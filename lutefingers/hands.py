@@ -1,15 +1,19 @@
 """The calls: what a hand has to hold in a lute piece, and how it can.
 
-A refusal is a list of its number alone: -2 too many bytes, -6 no piece's text, -1 no such way of ringing,
--4 no such moment. They are looked at in this order.
+A refusal is a list of its number alone: -2 too many bytes, -6 no piece's text, -1 no such way of ringing or no
+such weights, -4 no such moment, -3 no plan. They are looked at in this order.
 """
 
 from lutefingers.fingers import find_grips
 from lutefingers.moments import held_moments
 from lutefingers.pieces import NoPiece, read_piece
+from lutefingers.plans import cheapest_plan
+from lutefingers.plantexts import write_plan
 
 MOST_BYTES = 65536
 LAST_RINGING = 2
+WEIGHTS = 9
+MOST_WEIGHT = 255
 
 
 # refusal: the number of what is refused, or 0; then moments are those of the piece.
@@ -20,6 +24,7 @@ class Reading:
 
 
 def read_moments(ring, t):
+    """The moments of the piece whose text t is, or what is refused."""
     if len(t) > MOST_BYTES:
         return Reading(-2, [])
     try:
@@ -29,6 +34,18 @@ def read_moments(ring, t):
     if ring > LAST_RINGING:
         return Reading(-1, [])
     return Reading(0, held_moments(lines, ring))
+
+
+def read_weighed(ring, t, w):
+    """The same, for a call that takes weights too."""
+    reading = read_moments(ring, t)
+    if reading.refusal == 0 and not are_weights(w):
+        return Reading(-1, [])
+    return reading
+
+
+def are_weights(w):
+    return len(w) == WEIGHTS and all([0 <= weight <= MOST_WEIGHT for weight in w])
 
 
 def held(ring, i, t):
@@ -54,3 +71,15 @@ def grips(ring, i, t):
     if i >= len(reading.moments):
         return [-4]
     return [len(find_grips(reading.moments[i].stops))]
+
+
+def best(ring, t, w):
+    """What the first of the cheapest plans costs, how many bytes its text has, then these; or a refusal."""
+    reading = read_weighed(ring, t, w)
+    if reading.refusal < 0:
+        return [reading.refusal]
+    plan = cheapest_plan(reading.moments, w)
+    if plan is None:
+        return [-3]
+    text = write_plan(reading.moments, plan.grips)
+    return [plan.cost, len(text)] + text

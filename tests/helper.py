@@ -140,10 +140,9 @@ def timed(lines):
     return moments, bars, unit
 
 
-def second_held(lines, ring, i):
-    """The held stops of moment i, straight by the document's words."""
+def second_sounding(lines, ring):
+    """Of each stop with a fret from 1 on: its course, its fret, the units at which it begins and ends."""
     moments, bars, piece_end = timed(lines)
-    now = moments[i][1]
     found = []
     for number, (place, begin, length, stops) in enumerate(moments):
         for course, fret in stops:
@@ -151,9 +150,25 @@ def second_held(lines, ring, i):
             end = begin + length if ring == 0 else min(again, default=piece_end)
             if ring == 2:
                 end = min([end] + [unit for bar, unit in bars if bar > place])
-            if fret > 0 and begin <= now < end:
-                found.append((course, fret))
-    return sorted(found)
+            if fret > 0:
+                found.append((course, fret, begin, end))
+    return found
+
+
+def second_held(lines, ring, i):
+    """The held stops of moment i, straight by the document's words."""
+    now = timed(lines)[0][i][1]
+    return sorted((c, f) for c, f, begin, end in second_sounding(lines, ring) if begin <= now < end)
+
+
+def second_kept(lines, ring, i):
+    """The courses of the stops that are held from moment i to the next."""
+    now, then = timed(lines)[0][i][1], timed(lines)[0][i + 1][1]
+    struck = dict(timed(lines)[0][i + 1][3])
+    return [
+        course for course, _, begin, end in second_sounding(lines, ring)
+        if begin <= now and end > then and course not in struck
+    ]
 
 
 def second_answer(ring, i, t):
@@ -172,10 +187,11 @@ def second_answer(ring, i, t):
 
 def is_second_grip(stops, position, fingers):
     """The three points of a grip, one after another."""
+    for (_, fret), finger in zip(stops, fingers):
+        if not position + finger - 2 <= fret <= position + finger:
+            return False
     stopped = {finger: [s for s, own in zip(stops, fingers) if own == finger] for finger in (1, 2, 3, 4)}
     for finger, places in stopped.items():
-        if any(not position + finger - 2 <= fret <= position + finger for _, fret in places):
-            return False
         if len(places) > 1 and (finger != 1 or len({fret for _, fret in places}) > 1):
             return False
     for f, g in itertools.combinations((1, 2, 3, 4), 2):
@@ -194,6 +210,89 @@ def second_grips(stops):
         for fingers in itertools.product((1, 2, 3, 4), repeat=len(stops))
         if is_second_grip(stops, position, fingers)
     ]
+
+
+@functools.lru_cache(maxsize=None)
+def second_grip_counts(stops, grip):
+    """How often each of the nine weights is paid for a grip."""
+    position, fingers = grip
+    counts = [0] * 9
+    for finger in set(fingers):
+        counts[finger] = 1
+        (fret,) = {fret for (_, fret), own in zip(stops, fingers) if own == finger}
+        counts[5] += abs(fret - (position + finger - 1))
+    counts[6] = 1 if fingers.count(1) > 1 else 0
+    return counts
+
+
+@functools.lru_cache(maxsize=None)
+def second_going_counts(stops, grip, later_stops, later_grip):
+    """How often each of the nine weights is paid for going from one grip to the next."""
+    places = [set(zip(stops, grip[1])), set(zip(later_stops, later_grip[1]))]
+    in_both = set(grip[1]) & set(later_grip[1])
+    resting = {finger for _, finger in places[0] & places[1]}
+    return [abs(grip[0] - later_grip[0]), 0, 0, 0, 0, 0, 0, len(in_both - resting), 0]
+
+
+class Listing:
+    """All plans of a short piece, by going through all grips of all moments."""
+
+    def __init__(self, lines, ring):
+        self.moments = sum(line != BAR for line in lines)
+        self.stops = [tuple(second_held(lines, ring, i)) for i in range(self.moments)]
+        self.kept = [second_kept(lines, ring, i) for i in range(self.moments - 1)]
+        self.grips = [second_grips(stops) for stops in self.stops]
+        self.found = None
+
+    def size(self):
+        """As many plans there are at most."""
+        product = 1
+        for grips in self.grips:
+            product *= len(grips)
+        return product
+
+    def keeps(self, i, grip, later_grip):
+        """Whether each stop that is held from moment i to the next keeps its finger."""
+        finger = dict(zip(self.stops[i], grip[1]))
+        later = dict(zip(self.stops[i + 1], later_grip[1]))
+        return all(later[stop] == finger[stop] for stop in finger if stop[0] in self.kept[i])
+
+    def beginnings(self, moments):
+        """All plans of the first so many moments."""
+        if moments == 0:
+            return [()]
+        return [
+            plan + (grip,) for plan in self.beginnings(moments - 1) for grip in self.grips[moments - 1]
+            if not plan or self.keeps(moments - 2, plan[-1], grip)
+        ]
+
+    def plans(self):
+        """Each plan, with how often it pays each of the nine weights."""
+        if self.found is None:
+            self.found = [(plan, self.counts(plan)) for plan in self.beginnings(self.moments)]
+        return self.found
+
+    def counts(self, plan):
+        parts = [second_grip_counts(stops, grip) for stops, grip in zip(self.stops, plan)]
+        for i in range(len(plan) - 1):
+            parts.append(second_going_counts(self.stops[i], plan[i], self.stops[i + 1], plan[i + 1]))
+        parts.append([0] * 8 + [plan[0][0] - 1])
+        return [sum(column) for column in zip(*parts)]
+
+    def costs(self, w):
+        """Each plan behind what it costs."""
+        return [(sum(map(int.__mul__, w, counts)), plan) for plan, counts in self.plans()]
+
+    def text(self, plan):
+        rows = []
+        for stops, (position, fingers) in zip(self.stops, plan):
+            rows.append(str(position) + "".join(f" {c}:{own}" for (c, _), own in zip(stops, fingers)) + "\n")
+        return "".join(rows)
+
+
+def alone(number, weight=1):
+    """Nine weights, all 0 but one."""
+    return [weight if k == number else 0 for k in range(9)]
 
 
 class Dice:
@@ -224,6 +323,23 @@ class Dice:
             (course, min(15, lowest + self.below(4)) if course < 7 and self.below(6) else 0)
             for course in range(1, most_courses + 1) if self.below(6) < often
         ]
+
+    def weights(self):
+        """Nine weights: all 0, one alone, or all nine, small or great."""
+        sort = self.below(5)
+        if sort < 2:
+            return alone(self.below(9), self.below(3))
+        return [self.below((3, 10, 256)[sort - 2]) for _ in range(9)]
+
+    def listed_lines(self, most_plans=3000):
+        """A short piece of which all plans can be listed, with each way of ringing."""
+        while True:
+            lowest, often = self.below(14), 1 + self.below(3)
+            lines = self.lines(6, lambda: [
+                (course, min(15, lowest + self.below(5))) for course in range(1, 7) if self.below(6) < often
+            ])
+            if all(Listing(lines, ring).size() <= most_plans for ring in range(3)):
+                return lines
 
     def lines(self, most, stops=None):
         stops = stops or self.stops

@@ -82,7 +82,9 @@ class Language(unittest.TestCase):
             if isinstance(node, ast.ImportFrom):
                 self.assertEqual(node.level, 0, place)
                 self.assertRegex(node.module, r"\Alutefingers\.", place)
-                defined = {n.name for n in self.trees[node.module.split(".")[1] + ".py"].body if hasattr(n, "name")}
+                body = self.trees[node.module.split(".")[1] + ".py"].body
+                defined = {n.name for n in body if isinstance(n, (ast.FunctionDef, ast.ClassDef))}
+                defined |= {n.targets[0].id for n in body if isinstance(n, ast.Assign)}
                 self.assertLessEqual({alias.name for alias in node.names}, defined, place)
 
     def test_names(self):

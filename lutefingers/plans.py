@@ -1,0 +1,95 @@
+"""The cheapest plan of a piece's moments.
+
+Of each grip of a moment it is enough to know the cheapest way to go on from it to the piece's end.
+"""
+
+from lutefingers.costs import going_cost, grip_cost, starting_cost
+from lutefingers.fingers import find_grips, keeps_fingers
+
+
+# grips: all that the moment has, in their order.
+# ways: the cheapest way from each of these grips on, None where none goes to the piece's end.
+class Stage:
+    def __init__(self, moment):
+        self.stops = moment.stops
+        self.ties = moment.ties
+        self.grips = find_grips(moment.stops)
+        self.ways = []
+
+
+# cost: what is still to be paid from here to the piece's end.
+# follower: the place of the grip to go to among those of the next moment; None behind the last one.
+class Way:
+    def __init__(self, cost, follower):
+        self.cost = cost
+        self.follower = follower
+
+
+class Plan:
+    def __init__(self, cost, grips):
+        self.cost = cost
+        self.grips = grips
+
+
+def cheapest_of(stage, goings):
+    """The cheapest way that goes to a grip of this stage, the first of those that cost as little; or None.
+
+    goings says what it costs to go to each of the grips, None where that can't be.
+    """
+    found = None
+    for place, going in enumerate(goings):
+        way = stage.ways[place]
+        if going is None or way is None:
+            continue
+        cost = going + way.cost
+        if found is None or cost < found.cost:
+            found = Way(cost, place)
+    return found
+
+
+def find_goings(stage, grip, later, w):
+    """What it costs to go from this grip to each grip of the later stage, None where a finger isn't kept."""
+    goings = []
+    for later_grip in later.grips:
+        if keeps_fingers(later.ties, grip, later_grip):
+            goings.append(going_cost(stage.stops, grip, later.stops, later_grip, w))
+        else:
+            goings.append(None)
+    return goings
+
+
+def ways_from(stage, later, w):
+    """The ways of a stage; later is the stage behind it, None behind the last one."""
+    ways = []
+    for grip in stage.grips:
+        way = Way(0, None)
+        if later is not None:
+            way = cheapest_of(later, find_goings(stage, grip, later, w))
+        if way is not None:
+            way.cost += grip_cost(stage.stops, grip, w)
+        ways.append(way)
+    return ways
+
+
+def find_stages(moments, w):
+    """A stage for each moment, with its ways."""
+    stages = [Stage(moment) for moment in moments]
+    later = None
+    for place in range(len(stages) - 1, -1, -1):
+        stage = stages[place]
+        stage.ways = ways_from(stage, later, w)
+        later = stage
+    return stages
+
+
+def cheapest_plan(moments, w):
+    """The first of the cheapest plans; None if there is none."""
+    stages = find_stages(moments, w)
+    way = cheapest_of(stages[0], [starting_cost(grip, w) for grip in stages[0].grips])
+    if way is None:
+        return None
+    plan = Plan(way.cost, [])
+    for stage in stages:
+        plan.grips.append(stage.grips[way.follower])
+        way = stage.ways[way.follower]
+    return plan
