@@ -7,7 +7,7 @@ such weights, -4 no such moment, -3 no plan. They are looked at in this order.
 from lutefingers.fingers import find_grips
 from lutefingers.moments import held_moments
 from lutefingers.pieces import NoPiece, read_piece
-from lutefingers.plans import cheapest_plan
+from lutefingers.plans import cheapest_plan, count_cheapest
 from lutefingers.plantexts import write_plan
 
 MOST_BYTES = 65536
@@ -83,3 +83,14 @@ def best(ring, t, w):
         return [-3]
     text = write_plan(reading.moments, plan.grips)
     return [plan.cost, len(text)] + text
+
+
+def many(ring, t, w):
+    """What a cheapest plan costs, then how many plans cost as little; or a refusal."""
+    reading = read_weighed(ring, t, w)
+    if reading.refusal < 0:
+        return [reading.refusal]
+    counted = count_cheapest(reading.moments, w)
+    if counted is None:
+        return [-3]
+    return list(counted)

@@ -1,10 +1,12 @@
-"""The cheapest plan of a piece's moments.
+"""The cheapest plans of a piece's moments: the first of them, and how many they are.
 
 Of each grip of a moment it is enough to know the cheapest way to go on from it to the piece's end.
 """
 
 from lutefingers.costs import going_cost, grip_cost, starting_cost
 from lutefingers.fingers import find_grips, keeps_fingers
+
+MOST_COUNTED = 1000000000
 
 
 # grips: all that the moment has, in their order.
@@ -18,10 +20,12 @@ class Stage:
 
 
 # cost: what is still to be paid from here to the piece's end.
+# count: how many ways cost as little; no more than MOST_COUNTED are counted.
 # follower: the place of the grip to go to among those of the next moment; None behind the last one.
 class Way:
-    def __init__(self, cost, follower):
+    def __init__(self, cost, count, follower):
         self.cost = cost
+        self.count = count
         self.follower = follower
 
 
@@ -43,7 +47,9 @@ def cheapest_of(stage, goings):
             continue
         cost = going + way.cost
         if found is None or cost < found.cost:
-            found = Way(cost, place)
+            found = Way(cost, way.count, place)
+        elif cost == found.cost:
+            found.count = min(found.count + way.count, MOST_COUNTED)
     return found
 
 
@@ -62,7 +68,7 @@ def ways_from(stage, later, w):
     """The ways of a stage; later is the stage behind it, None behind the last one."""
     ways = []
     for grip in stage.grips:
-        way = Way(0, None)
+        way = Way(0, 1, None)
         if later is not None:
             way = cheapest_of(later, find_goings(stage, grip, later, w))
         if way is not None:
@@ -82,10 +88,15 @@ def find_stages(moments, w):
     return stages
 
 
+def whole_way(stages, w):
+    """The way through all stages, or None."""
+    return cheapest_of(stages[0], [starting_cost(grip, w) for grip in stages[0].grips])
+
+
 def cheapest_plan(moments, w):
     """The first of the cheapest plans; None if there is none."""
     stages = find_stages(moments, w)
-    way = cheapest_of(stages[0], [starting_cost(grip, w) for grip in stages[0].grips])
+    way = whole_way(stages, w)
     if way is None:
         return None
     plan = Plan(way.cost, [])
@@ -93,3 +104,11 @@ def cheapest_plan(moments, w):
         plan.grips.append(stage.grips[way.follower])
         way = stage.ways[way.follower]
     return plan
+
+
+def count_cheapest(moments, w):
+    """What a cheapest plan costs and how many cost as little, as a tuple; None if there is no plan."""
+    way = whole_way(find_stages(moments, w), w)
+    if way is None:
+        return None
+    return (way.cost, way.count)
