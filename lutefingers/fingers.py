@@ -53,6 +53,11 @@ def find_grips(stops):
     return found
 
 
+def is_grip(stops, grip):
+    """Whether a tuple of any position and, for each stop, any finger, is a grip."""
+    return grip in find_grips(stops)
+
+
 def keeps_fingers(ties, grip, later_grip):
     """Whether each stop that is held on keeps its finger; the ties are those of the later grip's moment."""
     return all([grip[1][before] == later_grip[1][now] for before, now in ties])

@@ -1,16 +1,19 @@
 """The calls: what a hand has to hold in a lute piece, and how it can.
 
 A refusal is a list of its number alone: -2 too many bytes, -6 no piece's text, -1 no such way of ringing or no
-such weights, -4 no such moment, -3 no plan. They are looked at in this order.
+such weights, -4 no such moment, -3 no plan. They are looked at in this order. Of judge alone there are two more,
+last of all, with a place behind the number: -9 no plan's text, -5 no plan.
 """
 
 from lutefingers.fingers import find_grips
+from lutefingers.judging import first_fault, plan_cost
 from lutefingers.moments import held_moments
 from lutefingers.pieces import NoPiece, read_piece
 from lutefingers.plans import cheapest_plan, count_cheapest
-from lutefingers.plantexts import write_plan
+from lutefingers.plantexts import NoPlanText, read_plan, write_plan
 
 MOST_BYTES = 65536
+MOST_PLAN_BYTES = 262144
 LAST_RINGING = 2
 WEIGHTS = 9
 MOST_WEIGHT = 255
@@ -94,3 +97,20 @@ def many(ring, t, w):
     if counted is None:
         return [-3]
     return list(counted)
+
+
+def judge(ring, t, w, p):
+    """What the plan costs whose text p is; or a refusal, -9 with a line and -5 with a moment behind it."""
+    if len(p) > MOST_PLAN_BYTES:
+        return [-2]
+    reading = read_weighed(ring, t, w)
+    if reading.refusal < 0:
+        return [reading.refusal]
+    try:
+        told = read_plan(reading.moments, p)
+    except NoPlanText as fault:
+        return [-9, fault.line]
+    faulty = first_fault(reading.moments, told)
+    if faulty is not None:
+        return [-5, faulty]
+    return [plan_cost(reading.moments, told, w)]

@@ -3,6 +3,8 @@
 A stop is a tuple (course, fret). A line is a moment, a tuple (length, stops), or a bar, None.
 """
 
+from lutefingers.texts import as_text
+
 MOST_LINES = 512
 FIRST_BASS = 7
 CROSSED_COURSES = 5
@@ -12,8 +14,6 @@ MOST_ROUNDS = 3
 KINDS = ("french", "italian", "german")
 
 SIGNS = "\n &+-./0123456789ABCDEFGHIJKLMNOPQRSTUVWXYZabcdefghijklmnopqrstuvwxyz|"
-# Stands for every byte that has no place in any piece's text, so it must not be among SIGNS.
-NO_SIGN = "?"
 
 LENGTHS = {
     "x": 1, "t": 2, "s": 4, "e": 8, "q": 16, "h": 32, "w": 64,
@@ -34,14 +34,6 @@ GERMAN_BASSES = ("-7", "-8", "-9", "-10", "-11", "-12", "-13", "-14")
 # Raised wherever a text turns out to be no piece's text.
 class NoPiece(Exception):
     pass
-
-
-def as_text(codes):
-    """The bytes as a text, sign by sign."""
-    known = {}
-    for sign in SIGNS:
-        known[ord(sign)] = sign
-    return "".join([known.get(code, NO_SIGN) for code in codes])
 
 
 def read_grid(signs, frets):
@@ -163,7 +155,7 @@ def read_lines(kind, rows):
 
 def read_piece(codes):
     """The lines of the piece whose text these bytes are; NoPiece is raised if they are none's."""
-    rows = as_text(codes).split("\n")
+    rows = as_text(codes, SIGNS).split("\n")
     # A line's end stands behind each line, so what is behind the last one must be nothing.
     if rows[-1] != "":
         raise NoPiece("the last line has no end")

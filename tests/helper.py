@@ -290,6 +290,29 @@ class Listing:
         return "".join(rows)
 
 
+NUMBER_PATTERN = "(0|[1-9][0-9]{0,2})"
+
+
+def second_judge(listing, w, text):
+    """What judge is to answer of a plan's text, of the piece that is listed."""
+    rows = re.findall("[^\n]*\n", text)
+    rest = text[sum(map(len, rows)):]
+    plan = []
+    for number in range(max(listing.moments, len(rows) + (rest != ""))):
+        if number >= listing.moments or number >= len(rows):
+            return [-9, number]
+        wanted = "".join(f" {course}:{NUMBER_PATTERN}" for course, _ in listing.stops[number])
+        match = re.fullmatch(NUMBER_PATTERN + wanted + "\n", rows[number])
+        if not match:
+            return [-9, number]
+        numbers = [int(group) for group in match.groups()]
+        plan.append((numbers[0], tuple(numbers[1:])))
+    for number, grip in enumerate(plan):
+        if grip not in listing.grips[number] or number and not listing.keeps(number - 1, plan[number - 1], grip):
+            return [-5, number]
+    return [sum(map(int.__mul__, w, listing.counts(plan)))]
+
+
 def alone(number, weight=1):
     """Nine weights, all 0 but one."""
     return [weight if k == number else 0 for k in range(9)]
