@@ -9,7 +9,7 @@ from lutefingers.fingers import find_grips
 from lutefingers.judging import first_fault, plan_cost
 from lutefingers.moments import held_moments
 from lutefingers.pieces import NoPiece, read_piece
-from lutefingers.plans import cheapest_plan, count_cheapest
+from lutefingers.plans import cheapest_plan, count_cheapest, count_playable
 from lutefingers.plantexts import NoPlanText, read_plan, write_plan
 
 MOST_BYTES = 65536
@@ -114,3 +114,11 @@ def judge(ring, t, w, p):
     if faulty is not None:
         return [-5, faulty]
     return [plan_cost(reading.moments, told, w)]
+
+
+def stuck(ring, t):
+    """How many moments at most, from the first on, a plan can have; or a refusal."""
+    reading = read_moments(ring, t)
+    if reading.refusal < 0:
+        return [reading.refusal]
+    return [count_playable(reading.moments)]

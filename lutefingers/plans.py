@@ -1,4 +1,4 @@
-"""The cheapest plans of a piece's moments: the first of them, and how many they are.
+"""The cheapest plans of a piece's moments: the first of them, and how many they are; and how far a plan can go.
 
 Of each grip of a moment it is enough to know the cheapest way to go on from it to the piece's end.
 """
@@ -112,3 +112,21 @@ def count_cheapest(moments, w):
     if way is None:
         return None
     return (way.cost, way.count)
+
+
+def can_follow(moment, grip, reached):
+    """Whether this grip of the moment keeps the fingers of one of the reached grips of the moment before."""
+    return any([keeps_fingers(moment.ties, before, grip) for before in reached])
+
+
+def count_playable(moments):
+    """How many moments, from the first on, a plan can have at most."""
+    reached = []
+    for number, moment in enumerate(moments):
+        grips = find_grips(moment.stops)
+        if number > 0:
+            grips = [grip for grip in grips if can_follow(moment, grip, reached)]
+        if grips == []:
+            return number
+        reached = grips
+    return len(moments)

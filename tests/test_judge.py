@@ -88,7 +88,7 @@ class AgainstAListing(unittest.TestCase):
         t = codes(piece_text("german", lines))
         for ring in range(3):
             listing = Listing(lines, ring)
-            for _, plan in listing.costs(w)[::40]:
+            for _, plan in listing.costs(w)[::100]:
                 text = listing.text(plan)
                 for place in range(len(text) + 1):
                     others = [text[:place] + text[place + 1:]]
